@@ -13,8 +13,10 @@ const variables = "xyz"
 
 // What a text, or an operand within it, has to be.
 const (
-	exprKind = 'e'
-	testKind = 't'
+	exprKind     = 'e'
+	testKind     = 't'
+	variableKind = 'v'
+	programKind  = 'p'
 )
 
 // A State gives the variables values.
@@ -24,7 +26,7 @@ type State struct {
 	Z int
 }
 
-// A term is an expression or a test: its first letter and its operands.
+// A term is a text of any kind as it is read: its first letter and its operands.
 type term struct {
 	letter byte
 	parts  []term
@@ -95,6 +97,13 @@ func operandKinds(kind byte, letter rune) string {
 		case '&', '|':
 			return "tt"
 		}
+	case variableKind:
+		switch letter {
+		case 'x', 'y', 'z':
+			return ""
+		}
+	case programKind:
+		return statementOperands(letter)
 	}
 	panic("letter out of place")
 }
@@ -141,6 +150,15 @@ func (t term) holds(s State) bool {
 		return t.parts[0].holds(s) || t.parts[1].holds(s)
 	}
 	return t.letter == 't'
+}
+
+// text returns the text from which a term was read.
+func (t term) text() string {
+	text := string(rune(t.letter))
+	for _, part := range t.parts {
+		text += part.text()
+	}
+	return text
 }
 
 // show returns an expression or a test in the usual form.
@@ -242,6 +260,11 @@ func varsOf(text string, kind byte) string {
 	if _, ok := readTerm(text, kind); !ok {
 		return ""
 	}
+	return variablesIn(text)
+}
+
+// variablesIn returns the letters of variables that occur in a text.
+func variablesIn(text string) string {
 	found := ""
 	for _, v := range variables {
 		if strings.ContainsRune(text, v) {
