@@ -26,6 +26,13 @@ type State struct {
 	Z int
 }
 
+// A pair is the states that a term speaks of. Only wide terms speak of the second
+// one.
+type pair struct {
+	first  State
+	second State
+}
+
 // A term is a text of any kind as it is read: its first letter and its operands.
 type term struct {
 	letter byte
@@ -104,21 +111,29 @@ func operandKinds(kind byte, letter rune) string {
 		}
 	case programKind:
 		return statementOperands(letter)
+	case wideExprKind, wideTestKind:
+		return wideOperands(kind, letter)
 	}
 	panic("letter out of place")
 }
 
 // value returns the value of an expression.
-func (t term) value(s State) int {
+func (t term) value(of pair) int {
 	switch t.letter {
 	case 'x':
-		return s.X
+		return of.first.X
 	case 'y':
-		return s.Y
+		return of.first.Y
 	case 'z':
-		return s.Z
+		return of.first.Z
+	case 'X':
+		return of.second.X
+	case 'Y':
+		return of.second.Y
+	case 'Z':
+		return of.second.Z
 	case '+', '-', '*':
-		return compute(t.letter, t.parts[0].value(s), t.parts[1].value(s))
+		return compute(t.letter, t.parts[0].value(of), t.parts[1].value(of))
 	}
 	return int(t.letter - '0')
 }
@@ -136,18 +151,18 @@ func compute(operator byte, a, b int) int {
 }
 
 // holds reports whether a test is true.
-func (t term) holds(s State) bool {
+func (t term) holds(of pair) bool {
 	switch t.letter {
 	case '=':
-		return t.parts[0].value(s) == t.parts[1].value(s)
+		return t.parts[0].value(of) == t.parts[1].value(of)
 	case '<':
-		return t.parts[0].value(s) < t.parts[1].value(s)
+		return t.parts[0].value(of) < t.parts[1].value(of)
 	case '!':
-		return !t.parts[0].holds(s)
+		return !t.parts[0].holds(of)
 	case '&':
-		return t.parts[0].holds(s) && t.parts[1].holds(s)
+		return t.parts[0].holds(of) && t.parts[1].holds(of)
 	case '|':
-		return t.parts[0].holds(s) || t.parts[1].holds(s)
+		return t.parts[0].holds(of) || t.parts[1].holds(of)
 	}
 	return t.letter == 't'
 }
@@ -232,7 +247,7 @@ func EvalExpr(e string, s State) (int, bool) {
 	if !ok || !StateValid(s) {
 		return 0, false
 	}
-	return read.value(s), true
+	return read.value(pair{first: s}), true
 }
 
 // EvalTest reports whether a test is true in a state.
@@ -241,7 +256,7 @@ func EvalTest(t string, s State) (bool, bool) {
 	if !ok || !StateValid(s) {
 		return false, false
 	}
-	return read.holds(s), true
+	return read.holds(pair{first: s}), true
 }
 
 // ExprVars returns the variables of an expression.
