@@ -58,7 +58,7 @@ func readTerm(text string, kind byte) (t term, ok bool) {
 // mustRead panics if the text is not a term of the kind. It keeps the places
 // that are still open, the next one last, and so needs no recursion.
 func mustRead(text string, kind byte) term {
-	if len(text) > MaxText {
+	if len(text) > longest(kind) {
 		panic("text too long")
 	}
 	var root term
@@ -80,6 +80,14 @@ func mustRead(text string, kind byte) term {
 		panic("text ends too early")
 	}
 	return root
+}
+
+// longest returns how many bytes a text of a kind may have.
+func longest(kind byte) int {
+	if kind == wideProgramKind {
+		return MaxWide
+	}
+	return MaxText
 }
 
 // operandKinds returns the kinds of the operands that follow a letter, and
@@ -111,7 +119,7 @@ func operandKinds(kind byte, letter rune) string {
 		}
 	case programKind:
 		return statementOperands(letter)
-	case wideExprKind, wideTestKind:
+	case wideExprKind, wideTestKind, wideVariableKind, wideProgramKind:
 		return wideOperands(kind, letter)
 	}
 	panic("letter out of place")
@@ -165,6 +173,25 @@ func (t term) holds(of pair) bool {
 		return t.parts[0].holds(of) || t.parts[1].holds(of)
 	}
 	return t.letter == 't'
+}
+
+// with returns the pair in which a variable has another value.
+func (of pair) with(v string, n int) pair {
+	switch v {
+	case "x":
+		of.first.X = n
+	case "y":
+		of.first.Y = n
+	case "z":
+		of.first.Z = n
+	case "X":
+		of.second.X = n
+	case "Y":
+		of.second.Y = n
+	case "Z":
+		of.second.Z = n
+	}
+	return of
 }
 
 // text returns the text from which a term was read.
@@ -343,13 +370,5 @@ func SetVar(s State, v string, n int) (State, bool) {
 	if !StateValid(s) || !isVariable(v) || !isValue(n) {
 		return State{}, false
 	}
-	switch v {
-	case "x":
-		s.X = n
-	case "y":
-		s.Y = n
-	case "z":
-		s.Z = n
-	}
-	return s, true
+	return pair{first: s}.with(v, n).first, true
 }
