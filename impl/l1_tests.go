@@ -307,9 +307,14 @@ func varsOf(text string, kind byte) string {
 
 // variablesIn returns the letters of variables that occur in a text.
 func variablesIn(text string) string {
+	return variablesWhere(func(v string) bool { return strings.Contains(text, v) })
+}
+
+// variablesWhere returns the letters of the variables that are as asked for.
+func variablesWhere(asked func(v string) bool) string {
 	found := ""
 	for _, v := range variables {
-		if strings.ContainsRune(text, v) {
+		if asked(string(v)) {
 			found += string(v)
 		}
 	}
