@@ -42,6 +42,7 @@ type modelRun struct {
 	s     impl.State
 	picks string
 	steps int
+	cost  int
 	most  int
 	code  int
 }
@@ -86,6 +87,7 @@ func (r *modelRun) execute(n *modelNode) bool {
 	switch {
 	case n.letter == "a":
 		r.s = n.assign(r.s)
+		r.cost++
 	case n.letter == "?" && n.isTrue(r.s):
 		return r.execute(n.parts[0])
 	case n.letter == "?":

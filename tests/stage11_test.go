@@ -385,23 +385,33 @@ func TestTransformsThatKeepTheLength(t *testing.T) {
 	wantLong(t, "RewriteAll by flat", rewriteBy("flat"), left, right, 200)
 }
 
-// widening returns an assignment for which RewriteAll by sets needs as many bytes
-// before it becomes a short one: 15 times 63 bytes, and the rest of the second
-// expression.
-func widening(v string, bytes int) string {
-	rest := bytes - 6 - 15*62
+// widened returns two assignments that become one of as many bytes, an odd number:
+// the first expression of 63 bytes stands in the second one 15 times.
+func widened(v string, bytes int) string {
 	first := strings.ReplaceAll(longSum(63), "x", v)
+	rest := bytes - 2 - 15*62
 	second := strings.Repeat("+", rest/2) + strings.Repeat(v, 15) + strings.Repeat("1", rest/2-14)
-	return ";;a" + v + first + "a" + v + second + "a" + v + "0"
+	return ";a" + v + first + "a" + v + second
+}
+
+// wantWidened checks that two assignments become one of as many bytes.
+func wantWidened(t *testing.T, within string, bytes int) {
+	t.Helper()
+	if got, ok := modelRewrite(within, "sets"); !ok || len(got) != bytes || !impl.ProgramValid(within) {
+		t.Fatalf("%q should become %d bytes, and becomes %d", within, bytes, len(got))
+	}
 }
 
 // Programs within that become longer than MaxText and end up no longer, and those that
-// become longer than MaxWide: a sequence of assignments has an odd number of bytes.
+// become longer than MaxWide by their own rewriting: 999 bytes are just not too many, as
+// an assignment has an odd number of bytes.
 func TestProgramsWithinThatBecomeWide(t *testing.T) {
 	t.Parallel()
-	for bytes := 965; bytes <= 1031; bytes += 2 {
+	for bytes := 963; bytes <= 1031; bytes += 2 {
 		for _, v := range letters() {
-			within, merged := widening(v, bytes), "a"+v+"0"
+			wide := widened(v, bytes)
+			wantWidened(t, wide, bytes)
+			within, merged := ";"+wide+"a"+v+"0", "a"+v+"0"
 			for _, around := range []string{"#", "@=x1#", ";s#", ";#/s~f", "?=y1#az1", "/@fs;#s"} {
 				p, want := strings.ReplaceAll(around, "#", within), strings.ReplaceAll(around, "#", merged)
 				if bytes > 1000 {
@@ -410,10 +420,11 @@ func TestProgramsWithinThatBecomeWide(t *testing.T) {
 				wantTransform(t, "RewriteAll by sets", rewriteBy("sets"), p, want, bytes <= 1000)
 			}
 			// What stays a wide one is no program.
-			wide, _, _ := strings.Cut(within[1:], "a"+v+"0")
-			got, ok := impl.RewriteAll(wide, "sets")
-			wantText(t, "RewriteAll by sets of what becomes wide", got, ok, "", false)
-			got, ok = impl.MergeSets(wide)
+			for _, p := range []string{wide, "/s" + wide, "@t" + wide, ";" + wide + "s"} {
+				got, ok := impl.RewriteAll(p, "sets")
+				wantText(t, "RewriteAll by sets of what becomes wide", got, ok, "", false)
+			}
+			got, ok := impl.MergeSets(wide)
 			wantText(t, "MergeSets of what becomes wide", got, ok, "", false)
 		}
 	}
@@ -430,21 +441,60 @@ func TestProgramsWithinThatBecomeWide(t *testing.T) {
 	}
 }
 
-// Both parts are rewritten before what they are parts of, and together they are one
-// program, which is too long although what would be put in place of it is not.
-func TestPartsThatAreTooLongTogether(t *testing.T) {
+// A program within that becomes just wide enough, and is rewritten again with what is
+// around it: what that becomes counts, and not how long both parts are together.
+func TestRewritingsOfWhatHasBecomeWide(t *testing.T) {
 	t.Parallel()
-	for times := 4; times <= 16; times++ {
-		part := func(by string) string {
-			second := strings.Repeat("+", 16) + strings.Repeat("x", times) + strings.Repeat("1", 17-times)
-			return ";ax" + strings.ReplaceAll(longSum(41), "x", by) + "ax" + second
+	cases := []struct {
+		around string
+		more   int
+	}{{";;#axxax0", 0}, {";;axx#ax0", 0}, {";;#ax2ax0", 0}, {";;;#axxaxxax0", 0}, {";;#ax+x1ax0", 2}, {";;ax+x1#ax0", 2 * 15 * 32}, {";;#;axxax+x1ax0", 2}, {";;;#axxax+x1ax0", 2}, {";;#ax+1+x1ax0", 4}, {";;#ax+xyax0", 2}, {";;#ax2;axxax0", 0}}
+	for bytes := 991; bytes <= 1003; bytes += 2 {
+		for _, c := range cases {
+			within := widened("x", bytes)
+			wantWidened(t, within, bytes)
+			fits := bytes+c.more <= 1000
+			want := map[bool]string{true: "ax0", false: ""}[fits]
+			wantTransform(t, "RewriteAll by sets", rewriteBy("sets"), strings.Replace(c.around, "#", within, 1), want, fits)
 		}
-		p := ";;" + part("x") + part("y") + "ax0"
-		fits := 1+2*(2+33+40*times) <= 1000
-		want := map[bool]string{true: "ax0", false: ""}[fits]
-		wantTransform(t, "RewriteAll by sets", rewriteBy("sets"), p, want, fits)
-		if modelWant, ok := modelRewriteAll(p, "sets"); modelWant != want || ok != fits {
-			t.Errorf("the model makes %q of %q", modelWant, p)
+	}
+	// The example of E and F: 997 bytes, and 3 bytes behind it.
+	first := strings.Repeat("+", 9) + strings.Repeat("y", 10)
+	second := strings.Repeat("+", 83) + strings.Repeat("x", 46) + strings.Repeat("1", 38)
+	wantWidened(t, ";ax"+first+"ax"+second, 997)
+	p := ";;ax" + first + "ax" + second + "ax0"
+	for around, want := range map[string]string{"#": "ax0", "/#s": "/ax0s", "/s#": "/sax0", "@t#": "@tax0", ";#s": ";ax0s", "?f#s": "?fax0s", ";#ay1": ";ax0ay1"} {
+		wantRewritten(t, strings.ReplaceAll(around, "#", p), "sets", want)
+	}
+}
+
+// Both parts become wide ones, each of which fits, and what they are put together to
+// does so, too, or does not.
+func TestPartsThatBecomeWideTogether(t *testing.T) {
+	t.Parallel()
+	part := func(v, by string, times int) string {
+		second := strings.Repeat("+", 29) + strings.Repeat(v, times) + strings.Repeat("1", 30-times)
+		return ";a" + v + strings.ReplaceAll(longSum(31), "x", by) + "a" + v + second
+	}
+	for times := 1; times <= 30; times++ {
+		bytes := 61 + 30*times
+		for by, fits := range map[string]bool{"y": true, "x": false} {
+			left, right := part("x", "y", times), part("x", by, times)
+			wantWidened(t, left, bytes)
+			wantWidened(t, right, bytes)
+			// With by in it, the second one takes the first one in as often as this.
+			all := bytes
+			if !fits {
+				all += 16 * times * (bytes - 3)
+			}
+			p := ";;" + left + right + "ax0"
+			want := map[bool]string{true: "ax0", false: ""}[all <= 1000]
+			wantTransform(t, "RewriteAll by sets", rewriteBy("sets"), p, want, all <= 1000)
+			// Of another variable, they stay two, and only the shortest ones fit.
+			p = ";" + left + part("z", by, times)
+			want, ok := modelRewriteAll(p, "sets")
+			wantTransform(t, "RewriteAll by sets", rewriteBy("sets"), p, want, ok)
+			wantTruth(t, "whether two of "+p+" fit", ok, 1+2*bytes <= 200)
 		}
 	}
 }

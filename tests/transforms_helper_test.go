@@ -155,7 +155,7 @@ func modelDrop(p string, m modelProgram) (string, bool) {
 }
 
 // modelThroughout rewrites a program and all programs within, none of which may become
-// longer than a wide program.
+// longer than a wide program by its own rewriting.
 func modelThroughout(p, name string) (string, bool) {
 	m, _, _ := readModel(p)
 	p = p[:1] + m.head
@@ -165,9 +165,6 @@ func modelThroughout(p, name string) (string, bool) {
 			return "", false
 		}
 		p += part
-	}
-	if len(p) > 1000 {
-		return "", false
 	}
 	if rewritten, ok := modelRewrite(p, name); ok {
 		p = rewritten
